@@ -1,0 +1,181 @@
+package exact
+
+import (
+	"math"
+	"math/big"
+	"math/rand"
+	"testing"
+)
+
+// samples returns integers of many sizes, with words of zeros and of ones, which are where carries go wrong.
+func samples(r *rand.Rand) []*big.Int {
+	list := []*big.Int{big.NewInt(0), big.NewInt(1), big.NewInt(-1), big.NewInt(math.MaxInt64), big.NewInt(math.MinInt64)}
+	for _, bits := range []uint{63, 64, 65, 127, 128, 129, 192, 640} {
+		power := new(big.Int).Lsh(big.NewInt(1), bits)
+		for _, d := range []int64{-1, 0, 1} {
+			x := new(big.Int).Add(power, big.NewInt(d))
+			list = append(list, x, new(big.Int).Neg(x))
+		}
+	}
+	words := []big.Word{0, 1, math.MaxUint, 1 << 63, 1<<63 - 1}
+	for n := 1; n <= 12; n++ {
+		for range 4 {
+			part := make([]big.Word, n)
+			for i := range part {
+				if k := r.Intn(2 * len(words)); k < len(words) {
+					part[i] = words[k]
+				} else {
+					part[i] = big.Word(r.Uint64())
+				}
+			}
+			list = append(list, new(big.Int).SetBits(part))
+		}
+	}
+	return list
+}
+
+// read returns the integer with the digits of another one.
+func read(t *testing.T, x *big.Int) Int {
+	t.Helper()
+	a, ok := ParseInt(x.String())
+	if !ok {
+		t.Fatalf("ParseInt(%v): no integer", x)
+	}
+	return a
+}
+
+// same reports an integer that is not the wanted one.
+func same(t *testing.T, what string, got Int, wanted *big.Int) {
+	t.Helper()
+	if got.String() != wanted.String() {
+		t.Errorf("%s: got %v, want %v", what, got, wanted)
+	}
+}
+
+func TestIntegers(t *testing.T) {
+	list := samples(rand.New(rand.NewSource(1)))
+	for _, x := range list {
+		a := read(t, x)
+		same(t, "String", a, x)
+		same(t, "Negated", a.Negated(), new(big.Int).Neg(x))
+		if a.Sign() != x.Sign() || a.Bits() != x.BitLen() {
+			t.Errorf("%v: sign %d, bits %d", x, a.Sign(), a.Bits())
+		}
+		if x.Sign() >= 0 {
+			same(t, "Root", a.Root(), new(big.Int).Sqrt(x))
+		}
+		for _, y := range list {
+			b := read(t, y)
+			same(t, "Plus", a.Plus(b), new(big.Int).Add(x, y))
+			same(t, "Minus", a.Minus(b), new(big.Int).Sub(x, y))
+			same(t, "Times", a.Times(b), new(big.Int).Mul(x, y))
+			same(t, "CommonDivisor", a.CommonDivisor(b), new(big.Int).GCD(nil, nil, new(big.Int).Abs(x), new(big.Int).Abs(y)))
+			if got := a.Order(b); got != x.Cmp(y) {
+				t.Errorf("Order of %v and %v: got %d", x, y, got)
+			}
+		}
+	}
+}
+
+func TestQuotients(t *testing.T) {
+	list := samples(rand.New(rand.NewSource(2)))
+	for _, x := range list {
+		for _, y := range list {
+			quotient, rest := read(t, x).Over(read(t, y))
+			if y.Sign() == 0 {
+				same(t, "quotient by 0", quotient, y)
+				same(t, "rest by 0", rest, y)
+				continue
+			}
+			back := quotient.Times(read(t, y)).Plus(rest)
+			same(t, "quotient and rest together", back, x)
+			if rest.Sign()*y.Sign() < 0 || new(big.Int).Abs(y).Cmp(new(big.Int).Abs(libraryInt(rest))) <= 0 {
+				t.Errorf("%v over %v: rest %v", x, y, rest)
+			}
+		}
+		for _, word := range []uint64{0, 1, 2, 97, 1 << 63, math.MaxUint64} {
+			wanted := new(big.Int)
+			if word != 0 {
+				wanted.Mod(x, new(big.Int).SetUint64(word))
+			}
+			same(t, "Modulo", NewWord(read(t, x).Modulo(word)), wanted)
+		}
+	}
+}
+
+// libraryInt returns an integer of the library with the digits of one of ours.
+func libraryInt(a Int) *big.Int {
+	x, _ := new(big.Int).SetString(a.String(), 10)
+	return x
+}
+
+func TestSmallIntegers(t *testing.T) {
+	for _, n := range []int{0, 1, -1, 42, math.MaxInt, math.MinInt} {
+		same(t, "NewInt", NewInt(n), big.NewInt(int64(n)))
+	}
+	same(t, "NewWord", NewWord(math.MaxUint64), new(big.Int).SetUint64(math.MaxUint64))
+	same(t, "the zero value", Int{}, big.NewInt(0))
+	same(t, "Root of -4", NewInt(-4).Root(), big.NewInt(0))
+	for _, text := range []string{"", "-", "--1", "+1", "1 ", "1_0", "0x1", "1234567890123456789012345678901234567890a", "a1234567890123456789"} {
+		if a, ok := ParseInt(text); ok || a.Sign() != 0 {
+			t.Errorf("ParseInt(%q): got %v, %v", text, a, ok)
+		}
+	}
+	if a, ok := ParseInt("-000"); !ok || a.String() != "0" {
+		t.Errorf("ParseInt(-000): got %v, %v", a, ok)
+	}
+}
+
+func TestFractions(t *testing.T) {
+	r := rand.New(rand.NewSource(3))
+	list := samples(r)
+	for range 5000 {
+		x, u := random(t, r, list)
+		y, v := random(t, r, list)
+		sameFraction(t, "Plus", x.Plus(y), new(big.Rat).Add(u, v))
+		sameFraction(t, "Minus", x.Minus(y), new(big.Rat).Sub(u, v))
+		sameFraction(t, "Times", x.Times(y), new(big.Rat).Mul(u, v))
+		if v.Sign() != 0 {
+			sameFraction(t, "Over", x.Over(y), new(big.Rat).Quo(u, v))
+		}
+		if x.Order(y) != u.Cmp(v) || x.Sign() != u.Sign() || x.IsZero() != (u.Sign() == 0) {
+			t.Errorf("%v and %v: order %d, sign %d", u, v, x.Order(y), x.Sign())
+		}
+		same(t, "Floor", x.Floor(), new(big.Int).Div(u.Num(), u.Denom()))
+		square := x.Times(x)
+		root, ok := square.Root()
+		if !ok || root.Times(root).Order(square) != 0 || root.Sign() < 0 {
+			t.Errorf("Root of the square of %v: got %v, %v", u, root, ok)
+		}
+	}
+}
+
+// random returns a fraction of two of some integers, and its like of the library.
+func random(t *testing.T, r *rand.Rand, list []*big.Int) (Fraction, *big.Rat) {
+	t.Helper()
+	top, bottom := list[r.Intn(len(list))], list[1+r.Intn(len(list)-1)]
+	if bottom.Sign() == 0 {
+		bottom = big.NewInt(1)
+	}
+	return NewFraction(read(t, top), read(t, bottom)), new(big.Rat).SetFrac(top, bottom)
+}
+
+// sameFraction reports a fraction that is not the wanted one, or not in lowest terms.
+func sameFraction(t *testing.T, what string, got Fraction, wanted *big.Rat) {
+	t.Helper()
+	same(t, what+" (numerator)", got.Top(), wanted.Num())
+	same(t, what+" (denominator)", got.Bottom(), wanted.Denom())
+}
+
+func TestSmallFractions(t *testing.T) {
+	sameFraction(t, "the zero value", Fraction{}, new(big.Rat))
+	sameFraction(t, "1 more than the zero value", Fraction{}.Plus(Whole(1)), big.NewRat(1, 1))
+	sameFraction(t, "a denominator 0", NewFraction(NewInt(3), NewInt(0)), new(big.Rat))
+	sameFraction(t, "a quotient by 0", Whole(3).Over(Whole(0)), new(big.Rat))
+	sameFraction(t, "Negated", NewFraction(NewInt(3), NewInt(-6)).Negated(), big.NewRat(1, 2))
+	for _, row := range [][2]int{{2, 1}, {1, 2}, {4, 3}, {3, 4}, {-4, 9}} {
+		if root, ok := NewFraction(NewInt(row[0]), NewInt(row[1])).Root(); ok || !root.IsZero() {
+			t.Errorf("Root of %v: got %v", row, root)
+		}
+	}
+}

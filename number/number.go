@@ -1,0 +1,170 @@
+// Package number computes exactly with rational numbers, spans of them, surds and places, and has shares, drawn orders,
+// equations and binomials. It is layer 1: see shared/doc/01-number.md.
+package number
+
+import (
+	"strings"
+
+	"baulk/api"
+	"baulk/exact"
+)
+
+// Limits of equations and sets.
+const (
+	MaxEquations = 24
+	MaxSet       = 64
+)
+
+// IsName reports whether a text is a name.
+func IsName(s string) bool {
+	if s == "" || len(s) > api.MaxName {
+		return false
+	}
+	for i, r := range s {
+		if !isLetter(r) && (i == 0 || r != '_' && !isDigit(r)) {
+			return false
+		}
+	}
+	return true
+}
+
+func isLetter(r rune) bool { return 'A' <= r && r <= 'Z' || 'a' <= r && r <= 'z' }
+
+func isDigit(r rune) bool { return '0' <= r && r <= '9' }
+
+// Check returns the first error of a number, or OK.
+func Check(a api.Rat) api.Errno {
+	_, e := readNumber(a)
+	return e
+}
+
+// Of returns the quotient of two integers.
+func Of(num, den int) (api.Rat, api.Errno) {
+	if den == 0 {
+		return "", api.ErrZero
+	}
+	return writeNumber(exact.NewFraction(exact.NewInt(num), exact.NewInt(den)))
+}
+
+// Add returns the sum.
+func Add(a, b api.Rat) (api.Rat, api.Errno) { return computed(a, b, exact.Fraction.Plus) }
+
+// Sub returns the difference.
+func Sub(a, b api.Rat) (api.Rat, api.Errno) { return computed(a, b, exact.Fraction.Minus) }
+
+// Mul returns the product.
+func Mul(a, b api.Rat) (api.Rat, api.Errno) { return computed(a, b, exact.Fraction.Times) }
+
+// Div returns the quotient.
+func Div(a, b api.Rat) (api.Rat, api.Errno) {
+	x, y, e := readPair(a, b)
+	if e != api.OK {
+		return "", e
+	}
+	if y.IsZero() {
+		return "", api.ErrZero
+	}
+	return writeNumber(x.Over(y))
+}
+
+// Order compares two numbers.
+func Order(a, b api.Rat) (int, api.Errno) {
+	x, y, e := readPair(a, b)
+	if e != api.OK {
+		return 0, e
+	}
+	return x.Order(y), api.OK
+}
+
+// Floor returns the greatest integer that is not above a number.
+func Floor(a api.Rat) (api.Rat, api.Errno) {
+	x, e := readNumber(a)
+	if e != api.OK {
+		return "", e
+	}
+	return writeNumber(exact.NewFraction(x.Floor(), exact.NewInt(1)))
+}
+
+// computed returns the result of an operation that has one for all numbers.
+func computed(a, b api.Rat, operation func(x, y exact.Fraction) exact.Fraction) (api.Rat, api.Errno) {
+	x, y, e := readPair(a, b)
+	if e != api.OK {
+		return "", e
+	}
+	return writeNumber(operation(x, y))
+}
+
+// firstError returns the first of some errors that is not OK.
+func firstError(errors ...api.Errno) api.Errno {
+	for _, e := range errors {
+		if e != api.OK {
+			return e
+		}
+	}
+	return api.OK
+}
+
+// readPair returns two numbers, or the error of the first one with one.
+func readPair(a, b api.Rat) (exact.Fraction, exact.Fraction, api.Errno) {
+	x, first := readNumber(a)
+	y, second := readNumber(b)
+	return x, y, firstError(first, second)
+}
+
+// readNumber returns the number with a text, or its error.
+func readNumber(a api.Rat) (exact.Fraction, api.Errno) {
+	top, bottom, slash := strings.Cut(string(a), "/")
+	if !slash {
+		bottom = "1"
+	}
+	if !isInteger(top) || slash && !isDenominator(bottom) {
+		return exact.Fraction{}, api.ErrForm
+	}
+	if isLarge(top) || isLarge(bottom) {
+		return exact.Fraction{}, api.ErrLarge
+	}
+	numerator, _ := exact.ParseInt(top)
+	denominator, _ := exact.ParseInt(bottom)
+	x := exact.NewFraction(numerator, denominator)
+	if x.Bottom().Order(denominator) != 0 {
+		return exact.Fraction{}, api.ErrForm
+	}
+	return x, api.OK
+}
+
+// isInteger reports whether a text is that of a decimal integer.
+func isInteger(s string) bool {
+	digits, negative := strings.CutPrefix(s, "-")
+	if digits == "0" {
+		return !negative
+	}
+	return isPositive(digits)
+}
+
+// isDenominator reports whether a text is that of a decimal integer of at least 2.
+func isDenominator(s string) bool { return s != "1" && isPositive(s) }
+
+// isPositive reports whether a text is that of a decimal integer above 0.
+func isPositive(s string) bool {
+	for _, r := range s {
+		if !isDigit(r) {
+			return false
+		}
+	}
+	return s != "" && s[0] != '0'
+}
+
+// isLarge reports whether an integer has too many digits.
+func isLarge(s string) bool { return len(strings.TrimPrefix(s, "-")) > api.MaxDigits }
+
+// writeNumber returns the text of a number, or ErrLarge.
+func writeNumber(x exact.Fraction) (api.Rat, api.Errno) {
+	top, bottom := x.Top().String(), x.Bottom().String()
+	switch {
+	case isLarge(top) || isLarge(bottom):
+		return "", api.ErrLarge
+	case bottom == "1":
+		return api.Rat(top), api.OK
+	}
+	return api.Rat(top + "/" + bottom), api.OK
+}
