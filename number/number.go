@@ -3,8 +3,6 @@
 package number
 
 import (
-	"strings"
-
 	"baulk/api"
 	"baulk/exact"
 )
@@ -34,7 +32,7 @@ func isDigit(r rune) bool { return '0' <= r && r <= '9' }
 
 // Check returns the first error of a number, or OK.
 func Check(a api.Rat) api.Errno {
-	_, e := readNumber(a)
+	_, e := exact.Read(a)
 	return e
 }
 
@@ -43,7 +41,7 @@ func Of(num, den int) (api.Rat, api.Errno) {
 	if den == 0 {
 		return "", api.ErrZero
 	}
-	return writeNumber(exact.NewFraction(exact.NewInt(num), exact.NewInt(den)))
+	return exact.Write(exact.NewFraction(exact.NewInt(num), exact.NewInt(den)))
 }
 
 // Add returns the sum.
@@ -64,7 +62,7 @@ func Div(a, b api.Rat) (api.Rat, api.Errno) {
 	if y.IsZero() {
 		return "", api.ErrZero
 	}
-	return writeNumber(x.Over(y))
+	return exact.Write(x.Over(y))
 }
 
 // Order compares two numbers.
@@ -78,11 +76,11 @@ func Order(a, b api.Rat) (int, api.Errno) {
 
 // Floor returns the greatest integer that is not above a number.
 func Floor(a api.Rat) (api.Rat, api.Errno) {
-	x, e := readNumber(a)
+	x, e := exact.Read(a)
 	if e != api.OK {
 		return "", e
 	}
-	return writeNumber(exact.NewFraction(x.Floor(), exact.NewInt(1)))
+	return exact.Write(exact.NewFraction(x.Floor(), exact.NewInt(1)))
 }
 
 // computed returns the result of an operation that has one for all numbers.
@@ -91,7 +89,7 @@ func computed(a, b api.Rat, operation func(x, y exact.Fraction) exact.Fraction) 
 	if e != api.OK {
 		return "", e
 	}
-	return writeNumber(operation(x, y))
+	return exact.Write(operation(x, y))
 }
 
 // firstError returns the first of some errors that is not OK.
@@ -106,65 +104,7 @@ func firstError(errors ...api.Errno) api.Errno {
 
 // readPair returns two numbers, or the error of the first one with one.
 func readPair(a, b api.Rat) (exact.Fraction, exact.Fraction, api.Errno) {
-	x, first := readNumber(a)
-	y, second := readNumber(b)
+	x, first := exact.Read(a)
+	y, second := exact.Read(b)
 	return x, y, firstError(first, second)
-}
-
-// readNumber returns the number with a text, or its error.
-func readNumber(a api.Rat) (exact.Fraction, api.Errno) {
-	top, bottom, slash := strings.Cut(string(a), "/")
-	if !slash {
-		bottom = "1"
-	}
-	if !isInteger(top) || slash && !isDenominator(bottom) {
-		return exact.Fraction{}, api.ErrForm
-	}
-	if isLarge(top) || isLarge(bottom) {
-		return exact.Fraction{}, api.ErrLarge
-	}
-	numerator, _ := exact.ParseInt(top)
-	denominator, _ := exact.ParseInt(bottom)
-	x := exact.NewFraction(numerator, denominator)
-	if x.Bottom().Order(denominator) != 0 {
-		return exact.Fraction{}, api.ErrForm
-	}
-	return x, api.OK
-}
-
-// isInteger reports whether a text is that of a decimal integer.
-func isInteger(s string) bool {
-	digits, negative := strings.CutPrefix(s, "-")
-	if digits == "0" {
-		return !negative
-	}
-	return isPositive(digits)
-}
-
-// isDenominator reports whether a text is that of a decimal integer of at least 2.
-func isDenominator(s string) bool { return s != "1" && isPositive(s) }
-
-// isPositive reports whether a text is that of a decimal integer above 0.
-func isPositive(s string) bool {
-	for _, r := range s {
-		if !isDigit(r) {
-			return false
-		}
-	}
-	return s != "" && s[0] != '0'
-}
-
-// isLarge reports whether an integer has too many digits.
-func isLarge(s string) bool { return len(strings.TrimPrefix(s, "-")) > api.MaxDigits }
-
-// writeNumber returns the text of a number, or ErrLarge.
-func writeNumber(x exact.Fraction) (api.Rat, api.Errno) {
-	top, bottom := x.Top().String(), x.Bottom().String()
-	switch {
-	case isLarge(top) || isLarge(bottom):
-		return "", api.ErrLarge
-	case bottom == "1":
-		return api.Rat(top), api.OK
-	}
-	return api.Rat(top + "/" + bottom), api.OK
 }

@@ -32,7 +32,7 @@ func computedPlace(a, b api.Place, operation func(p, q place) exact.Fraction) (a
 	if e != api.OK {
 		return "", e
 	}
-	return writeNumber(operation(p, q))
+	return exact.Write(operation(p, q))
 }
 
 // readPlaces returns two places, or the error of the first one with one.

@@ -123,7 +123,7 @@ func TestEliminationOfFractions(t *testing.T) {
 			singular++
 		}
 		for k, x := range wanted {
-			if a, _ := writeNumber(x); a != got[k] {
+			if a, _ := exact.Write(x); a != got[k] {
 				t.Errorf("%v and %v: got %v, want %v at %d", m, b, got[k], a, k)
 			}
 		}

@@ -32,7 +32,7 @@ func Solve(m [][]api.Rat, b []api.Rat) ([]api.Rat, api.Errno) {
 	}
 	result := make([]api.Rat, len(solution))
 	for i, x := range solution {
-		if result[i], e = writeNumber(x); e != api.OK {
+		if result[i], e = exact.Write(x); e != api.OK {
 			return nil, e
 		}
 	}
@@ -84,7 +84,7 @@ func readList(texts []api.Rat, n int) ([]exact.Fraction, api.Errno) {
 func numbers(texts []api.Rat) iter.Seq2[exact.Fraction, api.Errno] {
 	return func(yield func(exact.Fraction, api.Errno) bool) {
 		for _, text := range texts {
-			if !yield(readNumber(text)) {
+			if !yield(exact.Read(text)) {
 				return
 			}
 		}

@@ -45,7 +45,7 @@ func Over(a, b api.Span) (api.Span, api.Errno) {
 
 // Root returns a span that contains the root of a number.
 func Root(a api.Rat) (api.Span, api.Errno) {
-	x, e := readNumber(a)
+	x, e := exact.Read(a)
 	if e != api.OK {
 		return api.Span{}, e
 	}
@@ -85,8 +85,8 @@ func readSpan(s api.Span) (span, api.Errno) {
 
 // writeSpan returns a span, or ErrLarge.
 func writeSpan(s span) (api.Span, api.Errno) {
-	low, first := writeNumber(s.low)
-	high, second := writeNumber(s.high)
+	low, first := exact.Write(s.low)
+	high, second := exact.Write(s.high)
 	if e := firstError(first, second); e != api.OK {
 		return api.Span{}, e
 	}

@@ -74,9 +74,9 @@ func readSurds(s, t api.Surd) (surd, surd, api.Errno) {
 
 // readSurd returns a surd, or its error.
 func readSurd(s api.Surd) (surd, api.Errno) {
-	a, first := readNumber(s.A)
-	b, second := readNumber(s.B)
-	d, third := readNumber(s.D)
+	a, first := exact.Read(s.A)
+	b, second := exact.Read(s.B)
+	d, third := exact.Read(s.D)
 	if e := firstError(first, second, third); e != api.OK {
 		return surd{}, e
 	}
@@ -88,9 +88,9 @@ func readSurd(s api.Surd) (surd, api.Errno) {
 
 // writeSurd returns a surd, or ErrLarge.
 func writeSurd(s surd) (api.Surd, api.Errno) {
-	a, first := writeNumber(s.a)
-	b, second := writeNumber(s.b)
-	d, third := writeNumber(s.d)
+	a, first := exact.Write(s.a)
+	b, second := exact.Write(s.b)
+	d, third := exact.Write(s.d)
 	if e := firstError(first, second, third); e != api.OK {
 		return api.Surd{}, e
 	}

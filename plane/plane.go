@@ -1,0 +1,144 @@
+// Package plane has places of the plane with coordinates of any size, and how they lie to each other and to lines.
+package plane
+
+import (
+	"baulk/api"
+	"baulk/exact"
+)
+
+// Place is the place, or the vector, x/w, y/w. The fractions are not reduced, as this would take most of the time.
+type Place struct {
+	x exact.Int
+	y exact.Int
+	w exact.Int // above 0, except in the zero value
+}
+
+// Read returns a place of package api, or its error.
+func Read(p api.Place) (Place, api.Errno) {
+	x, e := exact.Read(p.X)
+	if e != api.OK {
+		return Place{}, e
+	}
+	y, e := exact.Read(p.Y)
+	if e != api.OK {
+		return Place{}, e
+	}
+	return Place{
+		x: x.Top().Times(y.Bottom()),
+		y: y.Top().Times(x.Bottom()),
+		w: x.Bottom().Times(y.Bottom()),
+	}, api.OK
+}
+
+// Write returns a place of package api, or ErrLarge.
+func (p Place) Write() (api.Place, api.Errno) {
+	x, e := exact.Write(exact.NewFraction(p.x, p.w))
+	if e != api.OK {
+		return api.Place{}, e
+	}
+	y, e := exact.Write(exact.NewFraction(p.y, p.w))
+	if e != api.OK {
+		return api.Place{}, e
+	}
+	return api.Place{X: x, Y: y}, api.OK
+}
+
+// Part returns a point divided by an integer above 0.
+func Part(p api.Point, n int) Place {
+	return Place{x: exact.NewInt(p.X), y: exact.NewInt(p.Y), w: exact.NewInt(n)}
+}
+
+// Plus returns the sum of two vectors.
+func (p Place) Plus(q Place) Place {
+	return Place{
+		x: p.x.Times(q.w).Plus(q.x.Times(p.w)),
+		y: p.y.Times(q.w).Plus(q.y.Times(p.w)),
+		w: p.w.Times(q.w),
+	}
+}
+
+// Times returns a multiple of a vector.
+func (p Place) Times(n int) Place {
+	factor := exact.NewInt(n)
+	return Place{x: p.x.Times(factor), y: p.y.Times(factor), w: p.w}
+}
+
+// Moved returns the place that a mapping makes of p, which makes x and y of the unit vectors of the axes and then adds
+// a vector.
+func (p Place) Moved(x, y, by api.Point) Place {
+	coordinate := func(x, y, by int) exact.Int {
+		return sumOf(p.x.Times(exact.NewInt(x)), p.y.Times(exact.NewInt(y)), p.w.Times(exact.NewInt(by)))
+	}
+	return Place{x: coordinate(x.X, y.X, by.X), y: coordinate(x.Y, y.Y, by.Y), w: p.w}
+}
+
+// sumOf returns the sum of integers.
+func sumOf(list ...exact.Int) exact.Int {
+	sum := exact.Int{}
+	for _, x := range list {
+		sum = sum.Plus(x)
+	}
+	return sum
+}
+
+// Between returns the place at a share of the way from one point to another one.
+func Between(from, to api.Point, share exact.Fraction) Place {
+	x, y := way(from, to)
+	return Place{
+		x: exact.NewInt(from.X).Times(share.Bottom()).Plus(x.Times(share.Top())),
+		y: exact.NewInt(from.Y).Times(share.Bottom()).Plus(y.Times(share.Top())),
+		w: share.Bottom(),
+	}
+}
+
+// Share returns the share at which a place of the line from one point to another one is; 0 if these are the same.
+func (p Place) Share(from, to api.Point) exact.Fraction {
+	x, y := way(from, to)
+	alongX, alongY := p.since(from)
+	if x.Sign() != 0 {
+		return exact.NewFraction(alongX, x.Times(p.w))
+	}
+	return exact.NewFraction(alongY, y.Times(p.w))
+}
+
+// Side returns 1, 0 or -1 for a place to the left of the line from one point to another one, on it, or to its right.
+func (p Place) Side(from, to api.Point) int {
+	x, y := way(from, to)
+	alongX, alongY := p.since(from)
+	return x.Times(alongY).Order(y.Times(alongX))
+}
+
+// way returns the way from one point to another one.
+func way(from, to api.Point) (x, y exact.Int) {
+	return exact.NewInt(to.X).Minus(exact.NewInt(from.X)), exact.NewInt(to.Y).Minus(exact.NewInt(from.Y))
+}
+
+// since returns w times the way from a point to p.
+func (p Place) since(from api.Point) (x, y exact.Int) {
+	return p.x.Minus(p.w.Times(exact.NewInt(from.X))), p.y.Minus(p.w.Times(exact.NewInt(from.Y)))
+}
+
+// Square is the square of a distance, as a fraction that is not reduced.
+type Square struct {
+	top    exact.Int
+	bottom exact.Int
+}
+
+// Distance returns the square of the distance of two places.
+func Distance(p, q Place) Square {
+	x := p.x.Times(q.w).Minus(q.x.Times(p.w))
+	y := p.y.Times(q.w).Minus(q.y.Times(p.w))
+	w := p.w.Times(q.w)
+	return Square{top: x.Times(x).Plus(y.Times(y)), bottom: w.Times(w)}
+}
+
+// SquareOf returns the square of an integer.
+func SquareOf(n int) Square {
+	return Square{top: exact.NewInt(n).Times(exact.NewInt(n)), bottom: exact.NewInt(1)}
+}
+
+// Order returns -1, 0 or 1 if a is less than, equal to, or greater than b.
+func (a Square) Order(b Square) int { return a.top.Times(b.bottom).Order(b.top.Times(a.bottom)) }
+
+// Fraction returns the square in lowest terms.
+func (a Square) Fraction() exact.Fraction { return exact.NewFraction(a.top, a.bottom) }
