@@ -138,7 +138,7 @@ func TestFractions(t *testing.T) {
 		if v.Sign() != 0 {
 			sameFraction(t, "Over", x.Over(y), new(big.Rat).Quo(u, v))
 		}
-		if x.Order(y) != u.Cmp(v) || x.Sign() != u.Sign() || x.IsZero() != (u.Sign() == 0) {
+		if x.Order(y) != u.Cmp(v) || x.Sign() != u.Sign() || x.IsZero() != (u.Sign() == 0) || x.IsWhole() != u.IsInt() {
 			t.Errorf("%v and %v: order %d, sign %d", u, v, x.Order(y), x.Sign())
 		}
 		same(t, "Floor", x.Floor(), new(big.Int).Div(u.Num(), u.Denom()))
@@ -167,11 +167,71 @@ func sameFraction(t *testing.T, what string, got Fraction, wanted *big.Rat) {
 	same(t, what+" (denominator)", got.Bottom(), wanted.Denom())
 }
 
+func TestRatios(t *testing.T) {
+	r := rand.New(rand.NewSource(4))
+	list := samples(r)
+	for range 3000 {
+		x, u := random(t, r, list)
+		y, v := random(t, r, list)
+		factor := read(t, list[1+r.Intn(len(list)-1)])
+		ratio := NewRatio(x.Top().Times(factor), x.Bottom().Times(factor))
+		sameFraction(t, "Fraction", ratio.Fraction(), u)
+		sameFraction(t, "Fraction", x.Ratio().Fraction(), u)
+		if got := ratio.Order(y.Ratio()); got != u.Cmp(v) || ratio.Sign() != u.Sign() {
+			t.Errorf("%v and %v: order %d, sign %d", u, v, got, ratio.Sign())
+		}
+		if ratio.Order(x.Ratio()) != 0 || y.Ratio().Order(ratio) != v.Cmp(u) {
+			t.Errorf("%v is not equal to itself", u)
+		}
+	}
+	for _, zero := range []Ratio{{}, Fraction{}.Ratio(), NewRatio(NewInt(0), NewInt(-3)), NewRatio(NewInt(3), NewInt(0))} {
+		sameFraction(t, "a ratio that is 0", zero.Fraction(), new(big.Rat))
+		if zero.Sign() != 0 || zero.Order(Ratio{}) != 0 || zero.Order(Whole(1).Ratio()) != -1 || Whole(-1).Ratio().Order(zero) != -1 {
+			t.Errorf("a ratio that is 0: sign %d, order %d", zero.Sign(), zero.Order(Whole(1).Ratio()))
+		}
+	}
+}
+
+func TestInverses(t *testing.T) {
+	r := rand.New(rand.NewSource(5))
+	list := samples(r)
+	for _, x := range list {
+		for _, y := range list {
+			if x.Sign() <= 0 || y.Sign() <= 0 || new(big.Int).GCD(nil, nil, x, y).Cmp(big.NewInt(1)) != 0 {
+				continue
+			}
+			same(t, "Inverse", read(t, x).Inverse(read(t, y)), new(big.Int).ModInverse(x, y))
+		}
+	}
+	same(t, "Inverse of 0 modulo 1", NewInt(0).Inverse(NewInt(1)), big.NewInt(0))
+}
+
+func TestNumbersUpTo(t *testing.T) {
+	for _, row := range []struct {
+		text  string
+		limit int
+		n     int
+		ok    bool
+	}{
+		{"0", 0, 0, true}, {"0", 9, 0, true}, {"9", 9, 9, true}, {"10", 9, 0, false}, {"-1", 9, 0, false}, {"0", -1, 0, false}, {"9223372036854775807", math.MaxInt, math.MaxInt, true},
+		{"9223372036854775808", math.MaxInt, 0, false}, {"18446744073709551616", 9, 0, false}, {"-18446744073709551616", 9, 0, false},
+	} {
+		a, _ := ParseInt(row.text)
+		if n, ok := a.UpTo(row.limit); n != row.n || ok != row.ok {
+			t.Errorf("%s up to %d: got %d, %v", row.text, row.limit, n, ok)
+		}
+	}
+}
+
 func TestSmallFractions(t *testing.T) {
 	sameFraction(t, "the zero value", Fraction{}, new(big.Rat))
 	sameFraction(t, "1 more than the zero value", Fraction{}.Plus(Whole(1)), big.NewRat(1, 1))
 	sameFraction(t, "a denominator 0", NewFraction(NewInt(3), NewInt(0)), new(big.Rat))
 	sameFraction(t, "a quotient by 0", Whole(3).Over(Whole(0)), new(big.Rat))
+	sameFraction(t, "NewWhole", NewWhole(NewInt(-4)), big.NewRat(-4, 1))
+	if !(Fraction{}).IsWhole() || !Whole(-2).IsWhole() || NewFraction(NewInt(3), NewInt(2)).IsWhole() {
+		t.Error("IsWhole is wrong")
+	}
 	sameFraction(t, "Negated", NewFraction(NewInt(3), NewInt(-6)).Negated(), big.NewRat(1, 2))
 	for _, row := range [][2]int{{2, 1}, {1, 2}, {4, 3}, {3, 4}, {-4, 9}} {
 		if root, ok := NewFraction(NewInt(row[0]), NewInt(row[1])).Root(); ok || !root.IsZero() {

@@ -24,7 +24,10 @@ func NewFraction(top, bottom Int) Fraction {
 }
 
 // Whole returns an integer as a fraction.
-func Whole(n int) Fraction { return Fraction{top: NewInt(n), bottom: NewInt(1)} }
+func Whole(n int) Fraction { return NewWhole(NewInt(n)) }
+
+// NewWhole returns an integer of any size as a fraction.
+func NewWhole(n Int) Fraction { return Fraction{top: n, bottom: NewInt(1)} }
 
 // Top returns the numerator, which has the sign of the fraction.
 func (a Fraction) Top() Int { return a.top }
@@ -42,6 +45,9 @@ func (a Fraction) Sign() int { return a.top.Sign() }
 
 // IsZero reports whether the fraction is 0.
 func (a Fraction) IsZero() bool { return a.Sign() == 0 }
+
+// IsWhole reports whether the fraction is an integer.
+func (a Fraction) IsWhole() bool { return a.Bottom().Order(NewInt(1)) == 0 }
 
 // Order returns -1, 0 or 1 if a is less than, equal to, or greater than b.
 func (a Fraction) Order(b Fraction) int {

@@ -162,6 +162,29 @@ func (a Int) Modulo(word uint64) uint64 {
 // CommonDivisor returns the greatest common divisor, from 0 on; that of 0 and 0 is 0.
 func (a Int) CommonDivisor(b Int) Int { return signed(false, commonDivisor(a.size, b.size)) }
 
+// Inverse returns the number from 0 on and below a modulus whose product with a leaves the same rest as 1 on division by
+// the modulus; a and the modulus are at least 0 and 1, and have no common divisor above 1.
+func (a Int) Inverse(modulus Int) Int {
+	// Each rest of Euclid's algorithm is a multiple of a, but for a multiple of the modulus.
+	before, rest := modulus, a
+	timesBefore, times := NewInt(0), NewInt(1)
+	for rest.Sign() != 0 {
+		quotient, next := before.Over(rest)
+		before, rest = rest, next
+		timesBefore, times = times, timesBefore.Minus(quotient.Times(times))
+	}
+	_, inverse := timesBefore.Over(modulus)
+	return inverse
+}
+
+// UpTo returns a number from 0 to a limit, and whether it is one.
+func (a Int) UpTo(limit int) (int, bool) {
+	if a.Sign() < 0 || a.Order(NewInt(limit)) > 0 {
+		return 0, false
+	}
+	return int(wordAt(a.size, 0)), true
+}
+
 // Root returns the integer part of the root; 0 if the number is negative.
 func (a Int) Root() Int {
 	if a.Sign() <= 0 {

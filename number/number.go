@@ -4,6 +4,7 @@ package number
 
 import (
 	"baulk/api"
+	"baulk/errno"
 	"baulk/exact"
 )
 
@@ -80,7 +81,7 @@ func Floor(a api.Rat) (api.Rat, api.Errno) {
 	if e != api.OK {
 		return "", e
 	}
-	return exact.Write(exact.NewFraction(x.Floor(), exact.NewInt(1)))
+	return exact.Write(exact.NewWhole(x.Floor()))
 }
 
 // computed returns the result of an operation that has one for all numbers.
@@ -92,19 +93,9 @@ func computed(a, b api.Rat, operation func(x, y exact.Fraction) exact.Fraction) 
 	return exact.Write(operation(x, y))
 }
 
-// firstError returns the first of some errors that is not OK.
-func firstError(errors ...api.Errno) api.Errno {
-	for _, e := range errors {
-		if e != api.OK {
-			return e
-		}
-	}
-	return api.OK
-}
-
 // readPair returns two numbers, or the error of the first one with one.
 func readPair(a, b api.Rat) (exact.Fraction, exact.Fraction, api.Errno) {
 	x, first := exact.Read(a)
 	y, second := exact.Read(b)
-	return x, y, firstError(first, second)
+	return x, y, errno.First(first, second)
 }

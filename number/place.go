@@ -2,6 +2,7 @@ package number
 
 import (
 	"baulk/api"
+	"baulk/errno"
 	"baulk/exact"
 )
 
@@ -42,7 +43,7 @@ func readPlaces(a, b api.Place) (place, place, api.Errno) {
 		return p, p, first
 	}
 	q, second := readPlace(b)
-	return p, q, firstError(first, second)
+	return p, q, errno.First(first, second)
 }
 
 // readPlace returns a place, or its error.

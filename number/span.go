@@ -4,6 +4,7 @@ import (
 	"slices"
 
 	"baulk/api"
+	"baulk/errno"
 	"baulk/exact"
 )
 
@@ -68,7 +69,7 @@ func computedSpan(a, b api.Span, operation func(x, y span) span) (api.Span, api.
 func readSpans(a, b api.Span) (span, span, api.Errno) {
 	x, first := readSpan(a)
 	y, second := readSpan(b)
-	return x, y, firstError(first, second)
+	return x, y, errno.First(first, second)
 }
 
 // readSpan returns a span, or its error.
@@ -87,7 +88,7 @@ func readSpan(s api.Span) (span, api.Errno) {
 func writeSpan(s span) (api.Span, api.Errno) {
 	low, first := exact.Write(s.low)
 	high, second := exact.Write(s.high)
-	if e := firstError(first, second); e != api.OK {
+	if e := errno.First(first, second); e != api.OK {
 		return api.Span{}, e
 	}
 	return api.Span{Low: low, High: high}, api.OK

@@ -4,6 +4,7 @@ import (
 	"cmp"
 
 	"baulk/api"
+	"baulk/errno"
 	"baulk/exact"
 )
 
@@ -69,7 +70,7 @@ func computedSurd(s, t api.Surd, operation func(x, y surd) surd) (api.Surd, api.
 func readSurds(s, t api.Surd) (surd, surd, api.Errno) {
 	x, first := readSurd(s)
 	y, second := readSurd(t)
-	return x, y, firstError(first, second)
+	return x, y, errno.First(first, second)
 }
 
 // readSurd returns a surd, or its error.
@@ -77,7 +78,7 @@ func readSurd(s api.Surd) (surd, api.Errno) {
 	a, first := exact.Read(s.A)
 	b, second := exact.Read(s.B)
 	d, third := exact.Read(s.D)
-	if e := firstError(first, second, third); e != api.OK {
+	if e := errno.First(first, second, third); e != api.OK {
 		return surd{}, e
 	}
 	if d.Sign() < 0 {
@@ -91,7 +92,7 @@ func writeSurd(s surd) (api.Surd, api.Errno) {
 	a, first := exact.Write(s.a)
 	b, second := exact.Write(s.b)
 	d, third := exact.Write(s.d)
-	if e := firstError(first, second, third); e != api.OK {
+	if e := errno.First(first, second, third); e != api.OK {
 		return api.Surd{}, e
 	}
 	return api.Surd{A: a, B: b, D: d}, api.OK

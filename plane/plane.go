@@ -92,20 +92,48 @@ func Between(from, to api.Point, share exact.Fraction) Place {
 }
 
 // Share returns the share at which a place of the line from one point to another one is; 0 if these are the same.
-func (p Place) Share(from, to api.Point) exact.Fraction {
+func (p Place) Share(from, to api.Point) exact.Ratio {
 	x, y := way(from, to)
 	alongX, alongY := p.since(from)
 	if x.Sign() != 0 {
-		return exact.NewFraction(alongX, x.Times(p.w))
+		return exact.NewRatio(alongX, x.Times(p.w))
 	}
-	return exact.NewFraction(alongY, y.Times(p.w))
+	return exact.NewRatio(alongY, y.Times(p.w))
 }
 
 // Side returns 1, 0 or -1 for a place to the left of the line from one point to another one, on it, or to its right.
-func (p Place) Side(from, to api.Point) int {
+func (p Place) Side(from, to api.Point) int { return p.beside(from, to).Sign() }
+
+// beside returns w times the vector product of the ways from one point to another one and to p.
+func (p Place) beside(from, to api.Point) exact.Int {
 	x, y := way(from, to)
 	alongX, alongY := p.since(from)
-	return x.Times(alongY).Order(y.Times(alongX))
+	return x.Times(alongY).Minus(y.Times(alongX))
+}
+
+// Crossing returns the place in which the line through p and q crosses that from one point to another one; p is farther
+// to the left of the latter than q.
+func Crossing(p, q Place, from, to api.Point) Place {
+	a, b := p.beside(from, to), q.beside(from, to)
+	return Place{
+		x: a.Times(q.x).Minus(b.Times(p.x)),
+		y: a.Times(q.y).Minus(b.Times(p.y)),
+		w: a.Times(q.w).Minus(b.Times(p.w)),
+	}
+}
+
+// Mirrored returns the image of p in the line from one point to another one, which is not the same.
+func (p Place) Mirrored(from, to api.Point) Place {
+	x, y := way(from, to)
+	alongX, alongY := p.since(from)
+	square := sumOf(x.Times(x), y.Times(y))
+	twice := sumOf(x.Times(alongX), y.Times(alongY)).Times(exact.NewInt(2))
+	image := Place{
+		x: twice.Times(x).Minus(square.Times(alongX)),
+		y: twice.Times(y).Minus(square.Times(alongY)),
+		w: square.Times(p.w),
+	}
+	return image.Plus(Part(from, 1))
 }
 
 // way returns the way from one point to another one.
@@ -118,27 +146,38 @@ func (p Place) since(from api.Point) (x, y exact.Int) {
 	return p.x.Minus(p.w.Times(exact.NewInt(from.X))), p.y.Minus(p.w.Times(exact.NewInt(from.Y)))
 }
 
-// Square is the square of a distance, as a fraction that is not reduced.
-type Square struct {
-	top    exact.Int
-	bottom exact.Int
-}
-
 // Distance returns the square of the distance of two places.
-func Distance(p, q Place) Square {
-	x := p.x.Times(q.w).Minus(q.x.Times(p.w))
-	y := p.y.Times(q.w).Minus(q.y.Times(p.w))
-	w := p.w.Times(q.w)
-	return Square{top: x.Times(x).Plus(y.Times(y)), bottom: w.Times(w)}
+func Distance(p, q Place) exact.Ratio {
+	way := p.minus(q)
+	return dot(way, way)
 }
 
-// SquareOf returns the square of an integer.
-func SquareOf(n int) Square {
-	return Square{top: exact.NewInt(n).Times(exact.NewInt(n)), bottom: exact.NewInt(1)}
+// Gap returns the square of the least distance of a place from those of the way from one place to another one, which may
+// be the same.
+func Gap(from, to, p Place) exact.Ratio {
+	whole, part := to.minus(from), p.minus(from)
+	share, all := dot(whole, part), dot(whole, whole)
+	switch {
+	case share.Sign() <= 0:
+		return Distance(from, p)
+	case share.Order(all) >= 0:
+		return Distance(to, p)
+	}
+	across := whole.x.Times(part.y).Minus(whole.y.Times(part.x))
+	length := sumOf(whole.x.Times(whole.x), whole.y.Times(whole.y))
+	return exact.NewRatio(across.Times(across), length.Times(part.w).Times(part.w))
 }
 
-// Order returns -1, 0 or 1 if a is less than, equal to, or greater than b.
-func (a Square) Order(b Square) int { return a.top.Times(b.bottom).Order(b.top.Times(a.bottom)) }
+// minus returns the way from q to p.
+func (p Place) minus(q Place) Place {
+	return Place{
+		x: p.x.Times(q.w).Minus(q.x.Times(p.w)),
+		y: p.y.Times(q.w).Minus(q.y.Times(p.w)),
+		w: p.w.Times(q.w),
+	}
+}
 
-// Fraction returns the square in lowest terms.
-func (a Square) Fraction() exact.Fraction { return exact.NewFraction(a.top, a.bottom) }
+// dot returns the scalar product of two vectors.
+func dot(p, q Place) exact.Ratio {
+	return exact.NewRatio(sumOf(p.x.Times(q.x), p.y.Times(q.y)), p.w.Times(q.w))
+}

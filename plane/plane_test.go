@@ -78,7 +78,7 @@ func TestPlaces(t *testing.T) {
 		if got, _ := exact.Write(Distance(p, q).Fraction()); got != api.Rat(wanted.RatString()) {
 			t.Errorf("Distance of %v and %v: got %v, want %v", u, v, got, wanted)
 		}
-		if got := Distance(p, q).Order(SquareOf(n)); got != wanted.Cmp(big.NewRat(int64(n*n), 1)) {
+		if got := Distance(p, q).Order(exact.Whole(n * n).Ratio()); got != wanted.Cmp(big.NewRat(int64(n*n), 1)) {
 			t.Errorf("Distance of %v and %v, and %d: got the order %d", u, v, n, got)
 		}
 	}
@@ -95,10 +95,10 @@ func TestLines(t *testing.T) {
 		s, _ := exact.Read(api.Rat(share.RatString()))
 		at := Between(from, to, s)
 		same(t, "Between", at, sum(a[0], times(share, less(b[0], a[0]))), sum(a[1], times(share, less(b[1], a[1]))))
-		if got := at.Share(from, to); from != to && got.Order(s) != 0 {
+		if got := at.Share(from, to).Fraction(); from != to && got.Order(s) != 0 {
 			t.Errorf("Share from %v to %v at %v: got %v", from, to, share, got)
 		}
-		if from == to && !at.Share(from, to).IsZero() {
+		if from == to && at.Share(from, to).Sign() != 0 {
 			t.Errorf("Share from %v to the same point: not 0", from)
 		}
 		if got := at.Side(from, to); got != 0 {
@@ -112,6 +112,79 @@ func TestLines(t *testing.T) {
 	}
 	if min(counts[-1], counts[1]) < 500 {
 		t.Errorf("only few places on one side: %v", counts)
+	}
+}
+
+func TestMirrors(t *testing.T) {
+	r := rand.New(rand.NewSource(3))
+	for range 1000 {
+		from, a := randomPoint(r)
+		to, b := randomPoint(r)
+		p, u := randomPlace(t, r)
+		if from == to {
+			continue
+		}
+		x, y := less(b[0], a[0]), less(b[1], a[1])
+		// Twice the way to the foot on the line, and back as far as from p.
+		along := sum(times(x, less(u[0], a[0])), times(y, less(u[1], a[1])))
+		share := new(big.Rat).Quo(sum(along, along), sum(times(x, x), times(y, y)))
+		same(t, "Mirrored", p.Mirrored(from, to), less(sum(sum(a[0], a[0]), times(share, x)), u[0]), less(sum(sum(a[1], a[1]), times(share, y)), u[1]))
+	}
+}
+
+func TestCrossings(t *testing.T) {
+	r := rand.New(rand.NewSource(4))
+	count := 0
+	for range 2000 {
+		from, a := randomPoint(r)
+		to, b := randomPoint(r)
+		p, u := randomPlace(t, r)
+		q, v := randomPlace(t, r)
+		beside := func(w [2]*big.Rat) *big.Rat {
+			return less(times(less(b[0], a[0]), less(w[1], a[1])), times(less(b[1], a[1]), less(w[0], a[0])))
+		}
+		first, second := beside(u), beside(v)
+		if first.Cmp(second) <= 0 {
+			continue
+		}
+		count++
+		share := new(big.Rat).Quo(first, less(first, second))
+		same(t, "Crossing", Crossing(p, q, from, to), sum(u[0], times(share, less(v[0], u[0]))), sum(u[1], times(share, less(v[1], u[1]))))
+	}
+	if count < 500 {
+		t.Errorf("only %d crossings", count)
+	}
+}
+
+func TestGaps(t *testing.T) {
+	r := rand.New(rand.NewSource(5))
+	for range 1000 {
+		p, u := randomPlace(t, r)
+		q, v := randomPlace(t, r)
+		_, w := randomPlace(t, r)
+		if r.Intn(5) == 0 {
+			q, v = p, u
+		}
+		at, e := Read(api.Place{X: api.Rat(w[0].RatString()), Y: api.Rat(w[1].RatString())})
+		if e != api.OK {
+			t.Fatalf("Read: the error %d", e)
+		}
+		x, y := less(v[0], u[0]), less(v[1], u[1])
+		share := new(big.Rat)
+		if length := sum(times(x, x), times(y, y)); length.Sign() != 0 {
+			share.Quo(sum(times(x, less(w[0], u[0])), times(y, less(w[1], u[1]))), length)
+		}
+		if share.Sign() < 0 {
+			share.SetInt64(0)
+		}
+		if share.Cmp(big.NewRat(1, 1)) > 0 {
+			share.SetInt64(1)
+		}
+		x, y = less(w[0], sum(u[0], times(share, x))), less(w[1], sum(u[1], times(share, y)))
+		wanted := sum(times(x, x), times(y, y))
+		if got, _ := exact.Write(Gap(p, q, at).Fraction()); got != api.Rat(wanted.RatString()) {
+			t.Errorf("Gap of %v, %v and %v: got %v, want %v", u, v, w, got, wanted)
+		}
 	}
 }
 

@@ -4,6 +4,7 @@ import (
 	"iter"
 
 	"baulk/api"
+	"baulk/errno"
 	"baulk/exact"
 	"baulk/plane"
 )
@@ -30,7 +31,7 @@ func Free(t Table, l []Ball, p api.Place) (bool, api.Errno) {
 	if e != api.OK {
 		return false, e
 	}
-	return s.position(at) >= 0 && !s.overlapped(at), api.OK
+	return s.Position(at) >= 0 && !s.overlapped(at), api.OK
 }
 
 // Spotted returns the first free place from a spot on, in steps.
@@ -42,7 +43,7 @@ func Spotted(t Table, l []Ball, spot string, step api.Place) (api.Place, api.Err
 	start, known := s.spots[spot]
 	way, e := plane.Read(step)
 	isZero := coordinates(step) == [2]api.Rat{"0", "0"}
-	if e = firstError(errorIf(!known, api.ErrUnknown), e, errorIf(isZero, api.ErrZero)); e != api.OK {
+	if e = errno.First(errno.If(!known, api.ErrUnknown), e, errno.If(isZero, api.ErrZero)); e != api.OK {
 		return api.Place{}, e
 	}
 	return s.firstFree(start, way)
@@ -55,7 +56,7 @@ search:
 	for k := range MaxTries {
 		at = start.Plus(step.Times(k))
 		switch {
-		case s.position(at) < 0:
+		case s.Position(at) < 0:
 			e = api.ErrNone
 			break search
 		case !s.overlapped(at):
@@ -119,7 +120,7 @@ func readLayout(t Table, l []Ball) (setting, api.Errno) {
 	names := map[string]bool{}
 	for _, ball := range l {
 		at, e := b.readNamed(ball.Name, ball.At, names)
-		if e = firstError(e, errorIf(s.overlapped(at), api.ErrOverlap)); e != api.OK {
+		if e = errno.First(e, errno.If(s.overlapped(at), api.ErrOverlap)); e != api.OK {
 			return setting{}, e
 		}
 		s.balls = append(s.balls, at)
@@ -128,7 +129,7 @@ func readLayout(t Table, l []Ball) (setting, api.Errno) {
 }
 
 // reach returns the square of two radii.
-func (b board) reach() plane.Square { return plane.SquareOf(2 * b.radius) }
+func (b board) reach() exact.Ratio { return exact.Whole(4 * b.radius * b.radius).Ratio() }
 
 // overlapped reports whether a ball at a place would overlap another one.
 func (s setting) overlapped(p plane.Place) bool {
@@ -141,8 +142,8 @@ func (s setting) overlapped(p plane.Place) bool {
 }
 
 // distances goes through the pairs of balls, in lexicographic order, each one with the square of its distance.
-func (s setting) distances() iter.Seq2[[2]int, plane.Square] {
-	return func(yield func([2]int, plane.Square) bool) {
+func (s setting) distances() iter.Seq2[[2]int, exact.Ratio] {
+	return func(yield func([2]int, exact.Ratio) bool) {
 		for i, p := range s.balls {
 			for j := i + 1; j < len(s.balls); j++ {
 				if !yield([2]int{i, j}, plane.Distance(p, s.balls[j])) {

@@ -6,6 +6,7 @@ import (
 	"strings"
 
 	"baulk/api"
+	"baulk/errno"
 	"baulk/number"
 	"baulk/plane"
 )
@@ -21,7 +22,7 @@ func Changed(t Table, m Move) (Table, api.Errno) {
 	}
 	pockets, first := changed(t.Pockets, func(p Pocket) (Pocket, api.Errno) { return m.pocket(p, len(corners)) })
 	spots, second := changed(t.Spots, m.spot)
-	if e := firstError(first, second); e != api.OK {
+	if e := errno.First(first, second); e != api.OK {
 		return Table{}, e
 	}
 	return Table{Corners: corners, Radius: t.Radius, Pockets: pockets, Spots: spots}, api.OK
@@ -68,7 +69,7 @@ func (m Move) corners(corners []api.Point) ([]api.Point, api.Errno) {
 	x, y := m.axes()
 	result, e := changed(corners, func(p api.Point) (api.Point, api.Errno) {
 		p = api.Point{X: p.X*x.X + p.Y*y.X + m.By.X, Y: p.X*x.Y + p.Y*y.Y + m.By.Y}
-		return p, errorIf(isFar(p), api.ErrRange)
+		return p, errno.If(isFar(p), api.ErrRange)
 	})
 	if e != api.OK {
 		return nil, e
@@ -106,7 +107,7 @@ func (m Move) pocket(p Pocket, edges int) (Pocket, api.Errno) {
 	}
 	from, first := number.Sub("1", p.To)
 	to, second := number.Sub("1", p.From)
-	return Pocket{Name: p.Name, Edge: edges - 1 - p.Edge, From: from, To: to}, firstError(first, second)
+	return Pocket{Name: p.Name, Edge: edges - 1 - p.Edge, From: from, To: to}, errno.First(first, second)
 }
 
 // Normal returns the normal form of a table.

@@ -46,7 +46,7 @@ func Rack(t Table, spot, kind string, shape [2]int) ([]api.Place, api.Errno) {
 	var places []plane.Place
 	for _, way := range k.ways(rows, b.radius) {
 		at := start.Plus(plane.Part(turned(way, quarters), wayUnit))
-		if b.position(at) < 0 {
+		if b.Position(at) < 0 {
 			return nil, api.ErrOutside
 		}
 		places = append(places, at)
