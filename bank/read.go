@@ -3,34 +3,20 @@ package bank
 import (
 	"baulk/api"
 	"baulk/errno"
-	"baulk/exact"
-	"baulk/outline"
 	"baulk/plane"
+	"baulk/scene"
 	"baulk/table"
 )
 
-// bed is a table whose numbers have been read.
+// bed is a table, which has balls only where these may block a path.
 type bed struct {
-	outline.Outline
+	scene.Scene
 }
 
 // readTable returns a table, or its error.
 func readTable(t table.Table) (bed, api.Errno) {
-	if e := table.CheckTable(t); e != api.OK {
-		return bed{}, e
-	}
-	return bedOf(t), api.OK
-}
-
-// bedOf returns a table without errors.
-func bedOf(t table.Table) bed {
-	b := bed{outline.Outline{Corners: t.Corners}}
-	for _, p := range t.Pockets {
-		from, _ := exact.Read(p.From)
-		to, _ := exact.Read(p.To)
-		b.Gaps = append(b.Gaps, outline.Gap{Edge: p.Edge, From: from.Ratio(), To: to.Ratio()})
-	}
-	return b
+	s, e := scene.ReadTable(t)
+	return bed{s}, e
 }
 
 // readRoute returns a table with two places of a path, or the first error.
@@ -54,7 +40,7 @@ func (b bed) readRoute(from, to api.Place) (route, api.Errno) {
 
 // readPlace returns a place of a path, or its error.
 func (b bed) readPlace(p api.Place) (plane.Place, api.Errno) {
-	at, e := b.readWithin(p)
+	at, e := b.ReadWithin(p)
 	if e != api.OK {
 		return plane.Place{}, e
 	}
@@ -67,12 +53,6 @@ func (b bed) readPlace(p api.Place) (plane.Place, api.Errno) {
 		}
 	}
 	return at, api.OK
-}
-
-// readWithin returns a place that is not outside, or its error.
-func (b bed) readWithin(p api.Place) (plane.Place, api.Errno) {
-	at, e := plane.Read(p)
-	return at, errno.First(e, errno.If(b.Position(at) < 0, api.ErrOutside))
 }
 
 // wordError returns the error of a word.

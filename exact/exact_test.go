@@ -177,6 +177,8 @@ func TestRatios(t *testing.T) {
 		ratio := NewRatio(x.Top().Times(factor), x.Bottom().Times(factor))
 		sameFraction(t, "Fraction", ratio.Fraction(), u)
 		sameFraction(t, "Fraction", x.Ratio().Fraction(), u)
+		same(t, "Top", x.Ratio().Top(), u.Num())
+		same(t, "Bottom", x.Ratio().Bottom(), u.Denom())
 		if got := ratio.Order(y.Ratio()); got != u.Cmp(v) || ratio.Sign() != u.Sign() {
 			t.Errorf("%v and %v: order %d, sign %d", u, v, got, ratio.Sign())
 		}
@@ -186,6 +188,9 @@ func TestRatios(t *testing.T) {
 	}
 	for _, zero := range []Ratio{{}, Fraction{}.Ratio(), NewRatio(NewInt(0), NewInt(-3)), NewRatio(NewInt(3), NewInt(0))} {
 		sameFraction(t, "a ratio that is 0", zero.Fraction(), new(big.Rat))
+		if zero.Top().Sign() != 0 || zero.Bottom().Sign() != 1 {
+			t.Errorf("a ratio that is 0: %v over %v", zero.Top(), zero.Bottom())
+		}
 		if zero.Sign() != 0 || zero.Order(Ratio{}) != 0 || zero.Order(Whole(1).Ratio()) != -1 || Whole(-1).Ratio().Order(zero) != -1 {
 			t.Errorf("a ratio that is 0: sign %d, order %d", zero.Sign(), zero.Order(Whole(1).Ratio()))
 		}

@@ -23,6 +23,17 @@ func NewRatio(top, bottom Int) Ratio {
 // Ratio returns a fraction as one that may be compared with those that are not reduced.
 func (a Fraction) Ratio() Ratio { return Ratio{top: a.top, bottom: a.bottom} }
 
+// Top returns the numerator, which has the sign of the number.
+func (a Ratio) Top() Int { return a.top }
+
+// Bottom returns the denominator, which is above 0.
+func (a Ratio) Bottom() Int {
+	if a.bottom.Sign() == 0 {
+		return NewInt(1)
+	}
+	return a.bottom
+}
+
 // Fraction returns the number in lowest terms.
 func (a Ratio) Fraction() Fraction { return NewFraction(a.top, a.bottom) }
 

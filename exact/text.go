@@ -4,6 +4,7 @@ import (
 	"strings"
 
 	"baulk/api"
+	"baulk/errno"
 )
 
 // Read returns a number of package api, or its error.
@@ -37,6 +38,28 @@ func Write(x Fraction) (api.Rat, api.Errno) {
 		return api.Rat(top), api.OK
 	}
 	return api.Rat(top + "/" + bottom), api.OK
+}
+
+// ReadSurd returns a surd of package api, or its error.
+func ReadSurd(s api.Surd) (Surd, api.Errno) {
+	a, first := Read(s.A)
+	b, second := Read(s.B)
+	d, third := Read(s.D)
+	if e := errno.First(first, second, third, errno.If(d.Sign() < 0, api.ErrRange)); e != api.OK {
+		return Surd{}, e
+	}
+	return Surd{A: a, B: b, D: d}, api.OK
+}
+
+// WriteSurd returns a surd of package api, or ErrLarge.
+func WriteSurd(s Surd) (api.Surd, api.Errno) {
+	a, first := Write(s.A)
+	b, second := Write(s.B)
+	d, third := Write(s.D)
+	if e := errno.First(first, second, third); e != api.OK {
+		return api.Surd{}, e
+	}
+	return api.Surd{A: a, B: b, D: d}, api.OK
 }
 
 // isInteger reports whether a text is that of a decimal integer.

@@ -22,6 +22,11 @@ type Gap struct {
 	To   exact.Ratio
 }
 
+// Share is a share of an edge, which is a fraction or any other number that can be compared with one.
+type Share interface {
+	Order(b exact.Ratio) int
+}
+
 // Edge is the way from a corner to the next one.
 type Edge struct {
 	From api.Point
@@ -63,7 +68,7 @@ func (o Outline) Position(p plane.Place) int {
 }
 
 // GapAt returns the number of the first gap that has a share of an edge, or -1.
-func (o Outline) GapAt(edge int, share exact.Ratio) int {
+func (o Outline) GapAt(edge int, share Share) int {
 	for i, g := range o.Gaps {
 		if o.has(g, edge, share) {
 			return i
@@ -73,7 +78,7 @@ func (o Outline) GapAt(edge int, share exact.Ratio) int {
 }
 
 // has reports whether a gap has a share of an edge; a corner is the beginning of one edge and the end of another one.
-func (o Outline) has(g Gap, edge int, share exact.Ratio) bool {
+func (o Outline) has(g Gap, edge int, share Share) bool {
 	start, end := exact.Ratio{}, exact.Whole(1).Ratio()
 	switch {
 	case g.Edge == edge && g.contains(share):
@@ -90,8 +95,8 @@ func (o Outline) has(g Gap, edge int, share exact.Ratio) bool {
 func (o Outline) next(edge int) int { return (edge + 1) % len(o.Corners) }
 
 // contains reports whether a share of the edge of a gap is in it.
-func (g Gap) contains(share exact.Ratio) bool {
-	return g.From.Order(share) <= 0 && share.Order(g.To) <= 0
+func (g Gap) contains(share Share) bool {
+	return share.Order(g.From) >= 0 && share.Order(g.To) <= 0
 }
 
 // Overlaps reports whether two gaps have a share of one edge in common.

@@ -86,6 +86,29 @@ func TestGaps(t *testing.T) {
 	}
 }
 
+// above is a share that is a little above a fraction, and so is not one of those that gaps have as their ends.
+type above struct{ fraction exact.Ratio }
+
+func (a above) Order(b exact.Ratio) int {
+	if a.fraction.Order(b) < 0 {
+		return -1
+	}
+	return 1
+}
+
+func TestSharesThatAreNoFractions(t *testing.T) {
+	for _, row := range []struct {
+		gap    Gap
+		edge   int
+		halves int
+		number int
+	}{{gap(0, 0, 1), 0, 0, 0}, {gap(0, 0, 1), 0, 1, -1}, {gap(0, 1, 2), 0, 0, -1}, {gap(0, 1, 2), 0, 1, 0}, {gap(0, 0, 0), 0, 0, -1}, {gap(2, 2, 2), 0, 0, -1}, {gap(1, 0, 1), 0, 1, -1}} {
+		if got := triangle(row.gap).GapAt(row.edge, above{halves(row.halves).Ratio()}); got != row.number {
+			t.Errorf("GapAt above %d halves of the edge %d with %v: got %d, want %d", row.halves, row.edge, row.gap, got, row.number)
+		}
+	}
+}
+
 func TestLines(t *testing.T) {
 	e := triangle().Edge(1)
 	if e.Side(at(t, "2", "2")) != 1 || e.Side(at(t, "6", "0")) != 0 || e.Side(at(t, "4", "4")) != -1 {

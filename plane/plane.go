@@ -43,6 +43,9 @@ func (p Place) Write() (api.Place, api.Errno) {
 	return api.Place{X: x, Y: y}, api.OK
 }
 
+// Whole returns whole numbers x, y and w, which is above 0, of which the place is x/w, y/w.
+func (p Place) Whole() (x, y, w exact.Int) { return p.x, p.y, p.w }
+
 // Part returns a point divided by an integer above 0.
 func Part(p api.Point, n int) Place {
 	return Place{x: exact.NewInt(p.X), y: exact.NewInt(p.Y), w: exact.NewInt(n)}
@@ -148,15 +151,15 @@ func (p Place) since(from api.Point) (x, y exact.Int) {
 
 // Distance returns the square of the distance of two places.
 func Distance(p, q Place) exact.Ratio {
-	way := p.minus(q)
-	return dot(way, way)
+	way := p.Minus(q)
+	return Dot(way, way)
 }
 
 // Gap returns the square of the least distance of a place from those of the way from one place to another one, which may
 // be the same.
 func Gap(from, to, p Place) exact.Ratio {
-	whole, part := to.minus(from), p.minus(from)
-	share, all := dot(whole, part), dot(whole, whole)
+	whole, part := to.Minus(from), p.Minus(from)
+	share, all := Dot(whole, part), Dot(whole, whole)
 	switch {
 	case share.Sign() <= 0:
 		return Distance(from, p)
@@ -168,8 +171,8 @@ func Gap(from, to, p Place) exact.Ratio {
 	return exact.NewRatio(across.Times(across), length.Times(part.w).Times(part.w))
 }
 
-// minus returns the way from q to p.
-func (p Place) minus(q Place) Place {
+// Minus returns the way from q to p.
+func (p Place) Minus(q Place) Place {
 	return Place{
 		x: p.x.Times(q.w).Minus(q.x.Times(p.w)),
 		y: p.y.Times(q.w).Minus(q.y.Times(p.w)),
@@ -177,7 +180,7 @@ func (p Place) minus(q Place) Place {
 	}
 }
 
-// dot returns the scalar product of two vectors.
-func dot(p, q Place) exact.Ratio {
+// Dot returns the scalar product of two vectors.
+func Dot(p, q Place) exact.Ratio {
 	return exact.NewRatio(sumOf(p.x.Times(q.x), p.y.Times(q.y)), p.w.Times(q.w))
 }

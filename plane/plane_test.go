@@ -62,14 +62,23 @@ func TestPlaces(t *testing.T) {
 		p, u := randomPlace(t, r)
 		q, v := randomPlace(t, r)
 		same(t, "Plus", p.Plus(q), sum(u[0], v[0]), sum(u[1], v[1]))
+		same(t, "Minus", p.Minus(q), less(u[0], v[0]), less(u[1], v[1]))
+		if got, _ := exact.Write(Dot(p, q).Fraction()); got != api.Rat(sum(times(u[0], v[0]), times(u[1], v[1])).RatString()) {
+			t.Errorf("Dot of %v and %v: got %v", u, v, got)
+		}
+		x, y, w := p.Whole()
+		same(t, "Whole", Place{x: x, y: y, w: w}, u[0], u[1])
+		if w.Sign() != 1 {
+			t.Errorf("Whole of %v is divided by %v", u, w)
+		}
 		n := r.Intn(9) - 4
 		same(t, "Times", p.Times(n), times(u[0], big.NewRat(int64(n), 1)), times(u[1], big.NewRat(int64(n), 1)))
-		x, a := randomPoint(r)
-		y, b := randomPoint(r)
+		along, a := randomPoint(r)
+		across, b := randomPoint(r)
 		by, c := randomPoint(r)
 		moved := func(i int) *big.Rat { return sum(sum(times(u[0], a[i]), times(u[1], b[i])), c[i]) }
-		same(t, "Moved", p.Moved(x, y, by), moved(0), moved(1))
-		same(t, "Part", Part(x, 4), times(a[0], big.NewRat(1, 4)), times(a[1], big.NewRat(1, 4)))
+		same(t, "Moved", p.Moved(along, across, by), moved(0), moved(1))
+		same(t, "Part", Part(along, 4), times(a[0], big.NewRat(1, 4)), times(a[1], big.NewRat(1, 4)))
 		square := func(u, v [2]*big.Rat) *big.Rat {
 			x, y := less(u[0], v[0]), less(u[1], v[1])
 			return sum(times(x, x), times(y, y))
