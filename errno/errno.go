@@ -20,3 +20,6 @@ func If(condition bool, e api.Errno) api.Errno {
 	}
 	return api.OK
 }
+
+// Range returns ErrRange for a number that is not from low to high, otherwise OK.
+func Range(n, low, high int) api.Errno { return If(n < low || n > high, api.ErrRange) }

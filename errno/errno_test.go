@@ -24,3 +24,14 @@ func TestIf(t *testing.T) {
 		t.Error("If is wrong")
 	}
 }
+
+func TestRange(t *testing.T) {
+	for n, e := range map[int]api.Errno{1: api.ErrRange, 2: api.OK, 3: api.OK, 4: api.OK, 5: api.ErrRange} {
+		if got := Range(n, 2, 4); got != e {
+			t.Errorf("Range of %d from 2 to 4: got %d, want %d", n, got, e)
+		}
+	}
+	if Range(2, 4, 2) != api.ErrRange {
+		t.Error("a range without numbers has one")
+	}
+}

@@ -22,9 +22,9 @@ const (
 func CheckRules(r Rules) api.Errno {
 	switch r.Game {
 	case straight:
-		return errno.First(rangeError(r.Target, 1, MaxTarget), limitError(r.Fouls))
+		return errno.First(errno.Range(r.Target, 1, MaxTarget), limitError(r.Fouls))
 	case eight, nine:
-		return errno.First(rangeError(r.Target, 0, 0), limitError(r.Fouls))
+		return errno.First(errno.Range(r.Target, 0, 0), limitError(r.Fouls))
 	}
 	return api.ErrKind
 }
@@ -34,23 +34,18 @@ func limitError(n int) api.Errno {
 	if n == 0 {
 		return api.OK
 	}
-	return rangeError(n, 2, MaxFouls)
-}
-
-// rangeError returns ErrRange for a number that is not from low to high.
-func rangeError(n, low, high int) api.Errno {
-	return errno.If(n < low || n > high, api.ErrRange)
+	return errno.Range(n, 2, MaxFouls)
 }
 
 // CheckShot returns the first error of a shot by itself, or OK.
 func CheckShot(x Shot) api.Errno {
 	_, isKind := kinds()[x.Kind]
 	return errno.First(
-		rangeError(x.Player, 0, 1),
+		errno.Range(x.Player, 0, 1),
 		errno.If(!isKind, api.ErrKind),
-		rangeError(x.Ball, 0, maxBall),
-		rangeError(x.Pocket, 0, maxPocket),
-		rangeError(x.First, 0, maxBall),
+		errno.Range(x.Ball, 0, maxBall),
+		errno.Range(x.Pocket, 0, maxPocket),
+		errno.Range(x.First, 0, maxBall),
 		errno.If((x.Ball == 0) != (x.Pocket == 0), api.ErrShape),
 		potsError(x.Pots),
 		errno.If(isWord(x) && !isBare(x), api.ErrForm),
@@ -64,7 +59,7 @@ func potsError(pots []Pot) api.Errno {
 	}
 	var isIn [maxBall + 1]bool
 	for _, p := range pots {
-		if e := errno.First(rangeError(p.Ball, 0, maxBall), rangeError(p.Pocket, 1, maxPocket)); e != api.OK {
+		if e := errno.First(errno.Range(p.Ball, 0, maxBall), errno.Range(p.Pocket, 1, maxPocket)); e != api.OK {
 			return e
 		}
 		if isIn[p.Ball] {
@@ -114,14 +109,14 @@ func sidesError(r Rules, s State) api.Errno {
 	if r.Game == eight {
 		groups = 2
 	}
-	return errno.First(rangeError(s.Turn, 0, 1), rangeError(s.Winner, 0, 1), rangeError(s.Group, 0, groups))
+	return errno.First(errno.Range(s.Turn, 0, 1), errno.Range(s.Winner, 0, 1), errno.Range(s.Group, 0, groups))
 }
 
 // ballsError returns the error of the first ball with one.
 func ballsError(r Rules, balls []int) api.Errno {
 	before := 0
 	for _, ball := range balls {
-		e := errno.First(rangeError(ball, 1, rackSize(r.Game)), errno.If(ball <= before, api.ErrOrder))
+		e := errno.First(errno.Range(ball, 1, rackSize(r.Game)), errno.If(ball <= before, api.ErrOrder))
 		if e != api.OK {
 			return e
 		}
@@ -140,12 +135,12 @@ func countsError(r Rules, s State) api.Errno {
 		fouls = r.Fouls - 1
 	}
 	return errno.First(
-		rangeError(s.Scores[0], -MaxScore, MaxScore),
-		rangeError(s.Scores[1], -MaxScore, MaxScore),
-		rangeError(s.Fouls[0], 0, fouls),
-		rangeError(s.Fouls[1], 0, fouls),
-		rangeError(s.Run, 0, MaxScore),
-		rangeError(s.Racks, 1, api.MaxShots),
+		errno.Range(s.Scores[0], -MaxScore, MaxScore),
+		errno.Range(s.Scores[1], -MaxScore, MaxScore),
+		errno.Range(s.Fouls[0], 0, fouls),
+		errno.Range(s.Fouls[1], 0, fouls),
+		errno.Range(s.Run, 0, MaxScore),
+		errno.Range(s.Racks, 1, api.MaxShots),
 	)
 }
 

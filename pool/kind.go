@@ -1,6 +1,10 @@
 package pool
 
-import "slices"
+import (
+	"slices"
+
+	"baulk/rule"
+)
 
 // question is what can be asked about a shot in the frame before it.
 type question func(f frame, x Shot) bool
@@ -47,7 +51,7 @@ func callsBadly(f frame, x Shot) bool {
 
 // strokeFoul returns the foul of a shot that has to hit a target and to move something.
 func strokeFoul(f frame, x Shot) int {
-	return first(
+	return rule.First(
 		func() bool { return pocketsCueBall(x) },
 		func() bool { return x.First == 0 },
 		func() bool { return !slices.Contains(f.targets(), x.First) },
@@ -57,7 +61,7 @@ func strokeFoul(f frame, x Shot) int {
 
 // pushFoul returns the foul of a push.
 func pushFoul(_ frame, x Shot) int {
-	return first(
+	return rule.First(
 		func() bool { return pocketsCueBall(x) },
 		func() bool { return x.First == 0 },
 	)

@@ -1,21 +1,15 @@
 package pool
 
-import "slices"
+import (
+	"slices"
 
-// first returns the number, from 1 on, of the first condition that holds, 0 if none does.
-func first(conditions ...func() bool) int {
-	for i, holds := range conditions {
-		if holds() {
-			return i + 1
-		}
-	}
-	return 0
-}
+	"baulk/rule"
+)
 
 // refusal returns the least rule that a shot breaks, 0 if there is none.
 func (f frame) refusal(x Shot) int {
 	k := kinds()[x.Kind]
-	return first(
+	return rule.First(
 		func() bool { return f.Over },
 		func() bool { return k.outOfTurn(f, x) },
 		func() bool { return k.untimely(f, x) },
