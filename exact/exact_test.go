@@ -211,6 +211,33 @@ func TestInverses(t *testing.T) {
 	same(t, "Inverse of 0 modulo 1", NewInt(0).Inverse(NewInt(1)), big.NewInt(0))
 }
 
+func TestRecoveredFractions(t *testing.T) {
+	r := rand.New(rand.NewSource(7))
+	recovered := 0
+	for range 3000 {
+		size := 1 + r.Intn(200)
+		power := new(big.Int).Lsh(big.NewInt(1), uint(size))
+		x := new(big.Rat).SetFrac(new(big.Int).Rand(r, power), new(big.Int).Add(big.NewInt(1), new(big.Int).Rand(r, new(big.Int).Sub(power, big.NewInt(1)))))
+		if r.Intn(2) == 0 {
+			x.Neg(x)
+		}
+		modulus := new(big.Int).Lsh(power, uint(size+1))
+		modulus.Add(modulus, new(big.Int).Rand(r, power))
+		inverse := new(big.Int).ModInverse(x.Denom(), modulus)
+		if inverse == nil {
+			continue
+		}
+		recovered++
+		value := new(big.Int).Mul(x.Num(), inverse)
+		value.Mod(value, modulus)
+		sameFraction(t, "Recovered", read(t, value).Recovered(read(t, modulus), size), x)
+	}
+	if recovered < 1000 {
+		t.Errorf("only %d fractions were recovered", recovered)
+	}
+	sameFraction(t, "Recovered of 0", NewInt(0).Recovered(NewInt(1), 1), new(big.Rat))
+}
+
 func TestNumbersUpTo(t *testing.T) {
 	for _, row := range []struct {
 		text  string

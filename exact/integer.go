@@ -165,16 +165,31 @@ func (a Int) CommonDivisor(b Int) Int { return signed(false, commonDivisor(a.siz
 // Inverse returns the number from 0 on and below a modulus whose product with a leaves the same rest as 1 on division by
 // the modulus; a and the modulus are at least 0 and 1, and have no common divisor above 1.
 func (a Int) Inverse(modulus Int) Int {
+	_, times := a.shortened(modulus, 1)
+	_, inverse := times.Over(modulus)
+	return inverse
+}
+
+// Recovered returns the fraction whose numerator leaves the same rest as the product of a and its denominator on division
+// by a modulus, if there is one of which both have at most so many binary digits, and the modulus more than twice as many
+// and 1; otherwise any fraction. a and the modulus are at least 0 and 1, and a is below the modulus.
+func (a Int) Recovered(modulus Int, size int) Fraction {
+	rest, times := a.shortened(modulus, size)
+	return NewFraction(rest, times)
+}
+
+// shortened returns the first rest of Euclid's algorithm with at most so many binary digits, and a number whose product
+// with a leaves the same rest.
+func (a Int) shortened(modulus Int, size int) (Int, Int) {
 	// Each rest of Euclid's algorithm is a multiple of a, but for a multiple of the modulus.
 	before, rest := modulus, a
 	timesBefore, times := NewInt(0), NewInt(1)
-	for rest.Sign() != 0 {
+	for rest.Bits() > size {
 		quotient, next := before.Over(rest)
 		before, rest = rest, next
 		timesBefore, times = times, timesBefore.Minus(quotient.Times(times))
 	}
-	_, inverse := timesBefore.Over(modulus)
-	return inverse
+	return rest, times
 }
 
 // UpTo returns a number from 0 to a limit, and whether it is one.

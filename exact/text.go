@@ -7,6 +7,10 @@ import (
 	"baulk/errno"
 )
 
+// MaxBits is the number of binary digits of the greatest numerators and denominators of package api: 10 to the power of
+// MaxDigits is below 2 to the power of MaxBits.
+const MaxBits = api.MaxDigits*10/3 + 1
+
 // Read returns a number of package api, or its error.
 func Read(a api.Rat) (Fraction, api.Errno) {
 	top, bottom, slash := strings.Cut(string(a), "/")

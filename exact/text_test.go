@@ -29,6 +29,9 @@ func TestTexts(t *testing.T) {
 		}
 	}
 	x, _ := Read(nines)
+	if n := x.Top().Bits(); n > MaxBits {
+		t.Errorf("the greatest number has %d binary digits", n)
+	}
 	for _, large := range []Fraction{x.Plus(Whole(1)), x.Plus(Whole(1)).Negated(), Whole(1).Over(x.Plus(Whole(1)))} {
 		if got, e := Write(large); got != "" || e != api.ErrLarge {
 			t.Errorf("Write of 601 digits: got %s and the error %d", got, e)

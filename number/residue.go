@@ -157,19 +157,7 @@ func (r remainders) with(solution []residue, prime uint64) remainders {
 func (r remainders) fractions(size int) []exact.Fraction {
 	list := make([]exact.Fraction, len(r.values))
 	for i, x := range r.values {
-		list[i] = r.fraction(x, size)
+		list[i] = x.Recovered(r.modulus, size)
 	}
 	return list
-}
-
-// fraction returns the fraction for a remainder, by Euclid's algorithm as it is in inverse.
-func (r remainders) fraction(value exact.Int, size int) exact.Fraction {
-	before, rest := r.modulus, value
-	timesBefore, times := exact.NewInt(0), exact.NewInt(1)
-	for rest.Bits() > size {
-		quotient, next := before.Over(rest)
-		before, rest = rest, next
-		timesBefore, times = times, timesBefore.Minus(quotient.Times(times))
-	}
-	return exact.NewFraction(rest, times)
 }

@@ -8,10 +8,6 @@ import (
 	"baulk/exact"
 )
 
-// numberBits is the number of binary digits of the greatest numerators and denominators: 10 to the power of MaxDigits is
-// below 2 to the power of numberBits.
-const numberBits = api.MaxDigits*10/3 + 1
-
 // field is a type whose values are added, multiplied and divided without rounding.
 type field[T any] interface {
 	Minus(T) T
@@ -97,7 +93,7 @@ func numbers(texts []api.Rat) iter.Seq2[exact.Fraction, api.Errno] {
 // solved modulo primes, and the solution is the only one with short numbers that has these remainders.
 func solved(rows [][]exact.Fraction) ([]exact.Fraction, api.Errno) {
 	most := determinantBits(rows)
-	size := min(most, numberBits)
+	size := min(most, exact.MaxBits)
 	lost := 0
 	var found remainders
 	for prime := range primesBelow(greatestPrime) {

@@ -1,48 +1,42 @@
 package pool
 
-import "iter"
+import (
+	"iter"
 
-// step is an entry of a log with the frames before and after it; an entry that is set aside changes nothing.
-type step struct {
-	Shot
-	number int
-	rule   int
-	foul   int
-	before frame
-	after  frame
-}
+	"baulk/replay"
+)
+
+// step is an entry of a log with the frames before and after it.
+type step = replay.Step[frame, Shot]
 
 // steps goes through the entries of a log that begins in the frame.
 func (f frame) steps(l []Shot) iter.Seq[step] {
-	return func(yield func(step) bool) {
-		at := f
-		for i, x := range l {
-			s := step{Shot: x, number: i + 1, rule: at.refusal(x), before: at, after: at}
-			if s.rule == 0 {
-				s.foul, s.after = at.foul(x), at.next(x)
-			}
-			if !yield(s) {
-				return
-			}
-			at = s.after
-		}
-	}
+	return replay.Steps(f, l, frame.refusal, frame.next)
 }
 
-// note returns what the entry did.
-func (s step) note() Note {
+// foulIn returns the foul of an entry, 0 for one without a foul, and for one that is set aside.
+func foulIn(s step) int {
+	if s.Rule != 0 {
+		return 0
+	}
+	return s.Before.foul(s.Entry)
+}
+
+// note returns what an entry did.
+func note(s step) Note {
+	player := s.Entry.Player
 	return Note{
-		Number: s.number,
-		Player: s.Player,
-		Rule:   s.rule,
-		Foul:   s.foul,
-		Points: s.after.Scores[s.Player] - s.before.Scores[s.Player],
-		Turn:   s.after.Turn != s.before.Turn,
+		Number: s.Number,
+		Player: player,
+		Rule:   s.Rule,
+		Foul:   foulIn(s),
+		Points: s.After.Scores[player] - s.Before.Scores[player],
+		Turn:   s.After.Turn != s.Before.Turn,
 	}
 }
 
-// endsRun reports whether the run before the entry does not go on after it.
-func (s step) endsRun() bool { return s.foul != 0 || s.after.Turn != s.before.Turn }
+// endsRun reports whether the run before an entry does not go on after it.
+func endsRun(s step) bool { return foulIn(s) != 0 || s.After.Turn != s.Before.Turn }
 
 // runs returns the run of the frame, if there are points in it.
 func (f frame) runs() []Run {
@@ -57,7 +51,7 @@ func states(r Rules, l []Shot) []State {
 	f := start(r)
 	list := []State{f.State}
 	for s := range f.steps(l) {
-		list = append(list, s.after.State)
+		list = append(list, s.After.State)
 	}
 	return list
 }

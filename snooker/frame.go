@@ -131,6 +131,12 @@ func (f frame) next(e Entry) (frame, Verdict) {
 	return f.struck(stroke{Entry: e, Verdict: v, before: f}), v
 }
 
+// after returns the frame after a legal entry.
+func (f frame) after(e Entry) frame {
+	n, _ := f.next(e)
+	return n
+}
+
 // struck returns the frame after a shot.
 func (f frame) struck(s stroke) frame {
 	n := f.offered(false, false)
